@@ -1,0 +1,1 @@
+"""Nextsuch: what few asks of an index tell of texts of any length."""

@@ -1,0 +1,37 @@
+"""Section 22 of the document: the names, arguments and files of the interface."""
+
+import importlib
+import inspect
+import unittest
+
+INTERFACE = {
+    "nextsuch.words": (
+        "is_text(wide, thing)", "is_letters(wide, thing)", "is_change(wide, thing)",
+        "next_place(text, place, letters)", "last_place(text, place, letters)", "between(text, near, far)",
+        "changed(text, change)", "shorter(one, other)"),
+    "nextsuch.machines": (
+        "is_machine(thing)", "wide_of(machine)", "state_after(machine, text)", "takes(machine, text)",
+        "least(machine)", "alike(one, other)", "joined(one, other, word)", "contrary(machine)", "mirrored(machine)",
+        "first_taken(machine)", "parting(one, other)"),
+    "nextsuch.errors": ("NoPlace(place)", "BadText(line)", "CanNot()", "TooMuch()", "Unfit()"),
+}
+
+
+class Interface(unittest.TestCase):
+    def test_names_and_arguments(self):
+        for module, shown in INTERFACE.items():
+            for own in shown:
+                name = own.partition("(")[0]
+                told = getattr(importlib.import_module(module), name)
+                self.assertEqual(name + str(inspect.signature(told)), own)
+
+    def test_each_is_defined_in_its_file(self):
+        for module, shown in INTERFACE.items():
+            for own in shown:
+                told = getattr(importlib.import_module(module), own.partition("(")[0])
+                self.assertEqual(told.__module__, module)
+                self.assertTrue(inspect.isclass(told) if module == "nextsuch.errors" else inspect.isfunction(told))
+
+
+if __name__ == "__main__":
+    unittest.main()
