@@ -19,18 +19,18 @@ class CanNot(ValueError):
     """There is nothing of what was asked for."""
 
     def __init__(self):
-        ValueError.__init__(self)
+        pass
 
 
 class TooMuch(ValueError):
     """What was asked for goes beyond what is worked out."""
 
     def __init__(self):
-        ValueError.__init__(self)
+        pass
 
 
 class Unfit(ValueError):
     """The arguments do not fit one another, or what was asked for."""
 
     def __init__(self):
-        ValueError.__init__(self)
+        pass
