@@ -1,7 +1,7 @@
 """Machines that read letter by letter: the least ones, and what comes of two."""
 
 from nextsuch.checks import is_row_in, is_set_in
-from nextsuch.errors import CanNot, Unfit
+from nextsuch.errors import CanNot, TooMuch, Unfit
 
 MOST_LETTERS = 3
 
@@ -41,10 +41,10 @@ def takes(machine, text):
     return state_after(machine, text) in machine[1]
 
 
-def explored(wide, start, go_on):
+def explored(wide, start, go_on, most=None):
     """The steps of all that is come to from start, numbered, and the list of what has these numbers.
 
-    go_on(own, letter) tells what is come to from own by letter.
+    go_on(own, letter) tells what is come to from own by letter. Raise TooMuch if more than most are come to.
     """
     # What has a lower number is come to by a lesser TEXT, and the lesser TEXT stays so with one letter more: so
     # numbers are given in the order in which TEXTS, tried from the least on, come to what has them.
@@ -60,7 +60,23 @@ def explored(wide, start, go_on):
                 found.append(there)
             row.append(numbers[there])
         steps.append(tuple(row))
+        if most is not None and len(found) > most:
+            raise TooMuch()
     return tuple(steps), found
+
+
+def texts_from(steps, start):
+    """For each STATE that is come to from STATE start the least TEXT that leads there."""
+    texts = {start: ()}
+    left = [start]
+    at = 0
+    while at < len(left):
+        for letter, there in enumerate(steps[left[at]], start=1):
+            if there not in texts:
+                texts[there] = texts[left[at]] + (letter,)
+                left.append(there)
+        at += 1
+    return texts
 
 
 def end_marks(machine):
@@ -190,16 +206,44 @@ def first_taken(machine):
     steps, ends = least(machine)
     if len(ends) == 0:
         raise CanNot()
-    # STATES are numbered as they are first come to, so the lowest end is the one that the least TEXT comes to, and
-    # each STATE is first come to from the lowest one that leads to it, by the lowest letter that does.
-    texts = {0: ()}
-    for state, row in enumerate(steps):
-        for letter, there in enumerate(row, start=1):
-            if there not in texts:
-                texts[there] = texts[state] + (letter,)
-    return texts[ends[0]]
+    # STATES are numbered as they are first come to, so the lowest end is the one that the least TEXT comes to.
+    return texts_from(steps, 0)[ends[0]]
+
+
+def leader_of(leaders, own):
+    """The one that stands for all that are one with own."""
+    while leaders[own] != own:
+        leaders[own] = leaders[leaders[own]]
+        own = leaders[own]
+    return own
+
+
+def parting_from(one, here, other, there):
+    """The least TEXT that leads just one of STATE here of one and STATE there of other to an end, None without."""
+    first_marks, second_marks = end_marks(one), end_marks(other)
+    behind = len(first_marks)
+    leaders = list(range(behind + len(second_marks)))
+    pairs = [(here, there, ())]
+    at = 0
+    while at < len(pairs):
+        here, there, text = pairs[at]
+        if first_marks[here] != second_marks[there]:
+            return text
+        for letter, (near, far) in enumerate(zip(one[0][here], other[0][there]), start=1):
+            # Two STATES that pairs ahead of them join are parted by no TEXT that does not part one of those pairs,
+            # and these are come to by lesser TEXTS: so they need not be tried.
+            near_leader, far_leader = leader_of(leaders, near), leader_of(leaders, behind + far)
+            if near_leader != far_leader:
+                leaders[far_leader] = near_leader
+                pairs.append((near, far, text + (letter,)))
+        at += 1
+    return None
 
 
 def parting(one, other):
     """The least TEXT that just one of both MACHINES takes."""
-    return first_taken(joined(one, other, "unlike"))
+    check_alike_wide(one, other)
+    text = parting_from(one, 0, other, 0)
+    if text is None:
+        raise CanNot()
+    return text

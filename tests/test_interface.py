@@ -13,6 +13,20 @@ INTERFACE = {
         "is_machine(thing)", "wide_of(machine)", "state_after(machine, text)", "takes(machine, text)",
         "least(machine)", "alike(one, other)", "joined(one, other, word)", "contrary(machine)", "mirrored(machine)",
         "first_taken(machine)", "parting(one, other)"),
+    "nextsuch.doings": (
+        "doing_of(machine, text)", "then(one, other)", "doings(machine)", "idempotents(machine)",
+        "word_for(machine, doing)", "power_of(doing)", "is_within(machine, one, other)", "doings_long(machine, number)",
+        "span(machine)"),
+    "nextsuch.classes": (
+        "onward_class(machine, doing)", "backward_class(machine, doing)", "both_ways(machine, doing)",
+        "keeping(machine, doing)", "keeping_back(machine, doing)", "falls(machine, text)", "falls_back(machine, text)",
+        "most_falls(machine)", "most_falls_back(machine)", "longest_falling(machine)", "are_steady(machine)"),
+    "nextsuch.kinds": (
+        "kinds(machine)", "is_of(machine, kind)", "bar(machine, kind)", "is_bar(machine, thing)",
+        "texts_by(bar, number)"),
+    "nextsuch.asks": (
+        "is_side(thing)", "is_ask(wide, thing)", "is_naming(wide, thing)", "found(text, place, side, letters)",
+        "row_named(text, naming)", "named(text, naming)", "stands_at(text, place)", "turned(naming)"),
     "nextsuch.errors": ("NoPlace(place)", "BadText(line)", "CanNot()", "TooMuch()", "Unfit()"),
 }
 

@@ -183,8 +183,8 @@ class Language(unittest.TestCase):
         for name, tree in trees().items():
             for node in ast.walk(tree):
                 inner = list(ast.iter_child_nodes(node))
-                is_set = [isinstance(own, (ast.SetComp, ast.Set)) or ast.unparse(own).startswith("set(")
-                          for own in inner]
+                is_set = [isinstance(own, (ast.SetComp, ast.Set)) or (
+                    isinstance(own, ast.Call) and ast.unparse(own.func) == "set") for own in inner]
                 if any(is_set) and not isinstance(node, (ast.Assign, ast.Compare)):
                     self.assertIsInstance(node, ast.Call, (name, node.lineno))
                     self.assertIn(ast.unparse(node.func), ("sorted", "len"), (name, node.lineno))

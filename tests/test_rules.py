@@ -3,55 +3,10 @@
 import copy
 import unittest
 
-from nextsuch import machines, words
-from tests.plain import KNOWN, LISTINGS, ODD_THINGS, WORDS, all_letters, listed, texts_to, thrown_machines
-
-TEXTS = texts_to(2, 2) + [(2, 1, 3, 1), (3, 3, 2, 1, 1, 2)]
-MACHINES = [own for _, own, _ in KNOWN] + thrown_machines(7, 24)
-
-
-def calls_of_words():
-    """Calls of words.py, errors among them: the function, its arguments by the names that the interface shows."""
-    for text in TEXTS:
-        for place in (-1, 0, 1, len(text), len(text) + 1, len(text) + 2):
-            for letters in all_letters(3)[::2]:
-                yield words.next_place, {"text": text, "place": place, "letters": letters}
-                yield words.last_place, {"text": text, "place": place, "letters": letters}
-            for far in (0, 2, len(text) + 1, len(text) + 3):
-                yield words.between, {"text": text, "near": place, "far": far}
-            for change in (("put", place, 3), ("drop", place), ("turn", place, 2)):
-                yield words.changed, {"text": text, "change": change}
-        for other in TEXTS:
-            yield words.shorter, {"one": text, "other": other}
-
-
-def calls_of_machines():
-    """Calls of machines.py, likewise."""
-    for at, machine in enumerate(MACHINES):
-        wide = len(machine[0][0])
-        for function in (machines.wide_of, machines.least, machines.contrary, machines.mirrored, machines.first_taken):
-            yield function, {"machine": machine}
-        for text in texts_to(wide, 2) + [(1, wide, 1, 1, wide)]:
-            yield machines.state_after, {"machine": machine, "text": text}
-            yield machines.takes, {"machine": machine, "text": text}
-        for other in MACHINES[at::5]:
-            yield machines.alike, {"one": machine, "other": other}
-            yield machines.parting, {"one": machine, "other": other}
-            for word in WORDS:
-                yield machines.joined, {"one": machine, "other": other, "word": word}
-
-
-def calls_with_things():
-    """Calls of the functions with a thing: it alone may not be a list where a tuple is stated."""
-    for thing in ODD_THINGS + tuple(MACHINES[:4]):
-        yield machines.is_machine, {"thing": thing}
-        for wide in (1, 2, 3):
-            for function in (words.is_text, words.is_letters, words.is_change):
-                yield function, {"wide": wide, "thing": thing}
-
-
-CALLS = list(calls_of_words()) + list(calls_of_machines())
-THING_CALLS = list(calls_with_things())
+from nextsuch import classes, doings, machines, words
+from tests.calls import CALLS, THING_CALLS
+from tests.plain import LISTINGS, listed
+from tests.test_interface import INTERFACE
 
 
 def outcome(function, *given, **named):
@@ -64,11 +19,10 @@ def outcome(function, *given, **named):
 
 class Calls(unittest.TestCase):
     def test_each_function_is_called(self):
-        called = {function.__name__ for function, _ in CALLS + THING_CALLS}
+        called = {(function.__module__, function.__name__) for function, _ in CALLS + THING_CALLS}
         self.assertEqual(called, {
-            "is_text", "is_letters", "is_change", "next_place", "last_place", "between", "changed", "shorter",
-            "is_machine", "wide_of", "state_after", "takes", "least", "alike", "joined", "contrary", "mirrored",
-            "first_taken", "parting"})
+            (module, own.partition("(")[0]) for module, shown in INTERFACE.items() if module != "nextsuch.errors"
+            for own in shown})
 
     def test_by_position_and_by_name(self):
         for function, named in CALLS + THING_CALLS:
@@ -126,6 +80,10 @@ class Calls(unittest.TestCase):
         self.assertEqual(repr(told), "((1, 2), (1, 2))")
 
     def test_an_argument_that_changed_is_read_anew(self):
+        machine = [[[1, 2], [2, 0], [2, 2]], [0]]
+        self.assertEqual((len(doings.doings(machine)), classes.most_falls(machine)), (6, 2))
+        machine[0][1][1] = 1
+        self.assertEqual((len(doings.doings(machine)), classes.most_falls(machine)), (2, 1))
         machine = [[[1, 0], [0, 1]], [1]]
         self.assertEqual(machines.first_taken(machine), (1,))
         machine[1][0] = 0
