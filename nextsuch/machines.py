@@ -112,19 +112,51 @@ def numbered(keys):
     return [numbers[key] for key in keys]
 
 
-def finer_parts(steps, parts):
-    """The parts of STATES that are in one part and by each letter go on to one part."""
-    return numbered([(part,) + tuple([parts[there] for there in row]) for part, row in zip(parts, steps)])
+def states_ahead(steps):
+    """For each STATE the list of the STATES from which a letter leads to it."""
+    ahead = [[] for _ in steps]
+    for own, row in enumerate(steps):
+        for there in row:
+            ahead[there].append(own)
+    return ahead
+
+
+def split_parts(steps, parts, sizes, touched):
+    """Part those of touched that go on to unlike parts; the list of those that are of a new part then."""
+    groups = {}
+    for own in touched:
+        groups.setdefault((parts[own],) + tuple([parts[there] for there in steps[own]]), []).append(own)
+    moved = []
+    # The greatest group comes last: it keeps the part if nothing else is left of it.
+    for group in sorted(groups.values(), key=len):
+        part = parts[group[0]]
+        if len(group) < sizes[part]:
+            sizes[part] -= len(group)
+            for own in group:
+                parts[own] = len(sizes)
+            sizes.append(len(group))
+            moved.extend(group)
+    return moved
+
+
+def finest_parts(steps, parts):
+    """For each STATE the number of its part: of one part are those that no TEXT leads to unlike ones of parts."""
+    ahead = states_ahead(steps)
+    told = numbered(parts)
+    sizes = [0] * len(set(told))
+    for part in told:
+        sizes[part] += 1
+    # Only what goes on to a new part can be parted anew, and it is parted from all that does not.
+    touched = list(range(len(steps)))
+    while len(touched) > 0:
+        moved = split_parts(steps, told, sizes, touched)
+        touched = sorted({own for there in moved for own in ahead[there]})
+    return numbered(told)
 
 
 def parts_of(machine):
     """For each STATE the number of its part: of one part are those that are gone on from alike."""
-    parts = numbered(end_marks(machine))
-    finer = finer_parts(machine[0], parts)
-    while finer != parts:
-        parts = finer
-        finer = finer_parts(machine[0], parts)
-    return parts
+    return finest_parts(machine[0], end_marks(machine))
 
 
 def merged(machine):

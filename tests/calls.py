@@ -1,8 +1,9 @@
 """Calls of all functions of the interface, errors among them: each with its arguments by the names shown."""
 
-from nextsuch import asks, classes, doings, kinds, machines, words
+from nextsuch import asks, chains, classes, doings, judged, kinds, machines, trees, unfolded, words
 from tests.plain import KNOWN, ODD_THINGS, WORDS, all_letters, texts_to, thrown_machines
 from tests.plain_doings import EDGES, PAIRS, SOONER, TWICE, WITH_200, WITH_201, ring
+from tests.plain_trees import FIRST_2, LOOSE, NO, YES, thrown_chains, thrown_trees
 
 TEXTS = texts_to(2, 2) + [(2, 1, 3, 1), (3, 3, 2, 1, 1, 2)]
 MACHINES = [own for _, own, _ in KNOWN] + thrown_machines(7, 24)
@@ -110,5 +111,63 @@ def more_calls_with_things():
             yield kinds.is_bar, {"machine": machine, "thing": thing}
 
 
-CALLS = [*calls_of_words(), *calls_of_machines(), *calls_of_doings(), *calls_of_asks()]
-THING_CALLS = [*calls_with_things(), *more_calls_with_things()]
+TREES = thrown_trees(81, 44)
+CHAINS = thrown_chains(82, 45) + [(3, FIRST_2), (2, LOOSE), (1, (((),), ()))]
+
+
+def calls_of_trees():
+    """Calls of trees.py, unfolded.py and judged.py, likewise."""
+    for at, (wide, tree) in enumerate(TREES):
+        for function in (trees.asks_ahead, trees.depth, trees.manners, trees.shared, trees.tree_contrary,
+                         trees.tree_mirrored):
+            yield function, {"tree": tree}
+        for text in texts_to(wide, 1) + [(1, wide, 1, 1, wide)]:
+            for function in (trees.run, trees.answer, trees.way_of):
+                yield function, {"tree": tree, "text": text}
+            yield unfolded.chain_of, {"wide": wide, "tree": tree, "text": text}
+        for function in (unfolded.unfolded, unfolded.reached, unfolded.cleaned, judged.machine_of):
+            yield function, {"wide": wide, "tree": tree}
+        for other in [own for own_wide, own in TREES[at % 7::7] if own_wide == wide] + [YES, NO, tree]:
+            yield trees.tree_joined, {"one": tree, "other": other, "word": WORDS[at % 3]}
+            yield judged.are_alike, {"wide": wide, "one": tree, "other": other}
+            yield judged.unlike, {"wide": wide, "one": tree, "other": other}
+        for machine in [own for own in MACHINES[at % 5::5] if len(own[0][0]) == wide] + [judged.machine_of(wide, tree)]:
+            yield judged.is_right, {"machine": machine, "tree": tree}
+            yield judged.wrong, {"machine": machine, "tree": tree}
+    seven = tuple(("ask", at + 1, "next", (1, 2, 3), at + 1) for at in range(1, 7))
+    seven = (("ask", 0, "next", (1, 2, 3), 1),) + seven + (("say", True),)
+    for function in (unfolded.unfolded, unfolded.reached, unfolded.cleaned):
+        yield function, {"wide": 3, "tree": seven}
+
+
+def calls_of_chains():
+    """Calls of chains.py and of machine_of_chains, likewise."""
+    for at, (wide, chain) in enumerate(CHAINS):
+        for function in (chains.is_single, chains.two_ways, chains.chain_mirrored):
+            yield function, {"chain": chain}
+        for text in texts_to(wide, 2) + [chain[1], tuple(chain[1]) + (1,)]:
+            yield chains.ways, {"chain": chain, "text": text}
+            yield chains.fits, {"chain": chain, "text": text}
+        for letters in all_letters(wide):
+            yield chains.narrowed, {"chain": chain, "letters": letters}
+        for other in [own for _, own in CHAINS[at % 5::5]]:
+            yield chains.meeting, {"one": chain, "other": other}
+        some = tuple(own for own_wide, own in CHAINS[at::8] if own_wide == wide)
+        yield judged.machine_of_chains, {"wide": wide, "chains": some}
+    yield judged.machine_of_chains, {"wide": 2, "chains": ()}
+    yield chains.ways, {"chain": (((1,), (1,)), (1,)), "text": (1,) * 2001}
+
+
+def calls_with_more_things():
+    """Calls of is_tree and is_chain."""
+    for thing in ODD_THINGS + tuple(own for _, own in TREES[::4]) + tuple(own for _, own in CHAINS[::4]):
+        for wide in (1, 2, 3):
+            yield trees.is_tree, {"wide": wide, "thing": thing}
+            yield chains.is_chain, {"wide": wide, "thing": thing}
+
+
+CALLS = [*calls_of_words(), *calls_of_machines(), *calls_of_doings(), *calls_of_asks(), *calls_of_trees(),
+         *calls_of_chains()]
+THING_CALLS = [*calls_with_things(), *more_calls_with_things(), *calls_with_more_things()]
+# All other functions tell several results as a tuple that the document names.
+LIST_FUNCTIONS = (chains.ways, unfolded.unfolded)

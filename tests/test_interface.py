@@ -27,6 +27,18 @@ INTERFACE = {
     "nextsuch.asks": (
         "is_side(thing)", "is_ask(wide, thing)", "is_naming(wide, thing)", "found(text, place, side, letters)",
         "row_named(text, naming)", "named(text, naming)", "stands_at(text, place)", "turned(naming)"),
+    "nextsuch.trees": (
+        "is_tree(wide, thing)", "asks_ahead(tree)", "depth(tree)", "manners(tree)", "run(tree, text)",
+        "answer(tree, text)", "way_of(tree, text)", "shared(tree)", "tree_joined(one, other, word)",
+        "tree_contrary(tree)", "tree_mirrored(tree)"),
+    "nextsuch.chains": (
+        "is_chain(wide, thing)", "ways(chain, text)", "fits(chain, text)", "is_single(chain)", "two_ways(chain)",
+        "meeting(one, other)", "narrowed(chain, letters)", "chain_mirrored(chain)"),
+    "nextsuch.unfolded": (
+        "unfolded(wide, tree)", "chain_of(wide, tree, text)", "reached(wide, tree)", "cleaned(wide, tree)"),
+    "nextsuch.judged": (
+        "machine_of(wide, tree)", "machine_of_chains(wide, chains)", "is_right(machine, tree)",
+        "wrong(machine, tree)", "are_alike(wide, one, other)", "unlike(wide, one, other)"),
     "nextsuch.errors": ("NoPlace(place)", "BadText(line)", "CanNot()", "TooMuch()", "Unfit()"),
 }
 

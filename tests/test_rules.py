@@ -4,7 +4,7 @@ import copy
 import unittest
 
 from nextsuch import classes, doings, machines, words
-from tests.calls import CALLS, THING_CALLS
+from tests.calls import CALLS, LIST_FUNCTIONS, THING_CALLS
 from tests.plain import LISTINGS, listed
 from tests.test_interface import INTERFACE
 
@@ -62,11 +62,22 @@ class Calls(unittest.TestCase):
         self.assertEqual(second, first)
         self.assertEqual(backward[::-1], first)
 
-    def test_results_have_no_list_in_them(self):
+    def test_no_result_has_a_list_within(self):
         for function, named in CALLS:
             for listing in LISTINGS:
                 told = outcome(function, **{name: listed(own, listing) for name, own in named.items()})
+                if function in LIST_FUNCTIONS and "TooMuch" not in told:
+                    self.assertEqual(told[0], "[")
+                    told = told[1:]
                 self.assertNotIn("[", told)
+
+    def test_a_list_that_is_returned_is_new(self):
+        for function, named in CALLS:
+            if function in LIST_FUNCTIONS:
+                told = outcome(function, **named)
+                if "TooMuch" not in told:
+                    function(**named).clear()
+                self.assertEqual(outcome(function, **named), told)
 
     def test_results_do_not_change_with_the_arguments(self):
         machine = [[[1, 0], [0, 1], [2, 0]], [1]]
