@@ -9,7 +9,8 @@ def machine_of(wide, tree):
     """The least MACHINE that takes the TEXTS which tree answers True."""
     # A reader is least, and numbered as its states are first come to: so is the MACHINE.
     states = reader_of(wide, tree)[2]
-    return tuple([moves[0] for _, _, moves in states]), ends_of([is_taking for _, is_taking, _ in states])
+    steps = tuple([tuple([move[0] for move in moves]) for _, _, moves in states])
+    return steps, ends_of([is_taking for _, is_taking, _ in states])
 
 
 def machine_of_chain(wide, chain):

@@ -3,8 +3,10 @@
 Spots are told by masks: spot number n is the bit 1 << n. A reader is a triple (live, begins, states): live the mask of
 the found spots that the knot, or one behind it, names; begins tells, for each mask of those at the front, the number of
 the state to begin in; a state is a triple (awaited, is_taking, moves): the mask of the live spots not yet come to,
-whether the text is answered True if it ends there and all awaited ones are at the back, and for each mask within
-awaited, of those that are at the next place, the states to go on in, one for each letter.
+whether the text is answered True if it ends there and all awaited ones are at the back, and for each letter, if it
+stands at the next place, the state to go on in for each mask of the awaited ones that are at this place, too.
+
+Not all masks are told: allowed tells which spots can be at the front, and at a place with letter 1, 2, ..
 """
 
 from nextsuch.machines import finest_parts
@@ -12,6 +14,18 @@ from nextsuch.trees import asks_ahead, leads_of
 
 FRONT = 1
 BOTH_ENDS = 3
+
+
+def spots_allowed(wide, tree, counts):
+    """The list of the masks of the found spots that can be at the front, and at a place with letter 1, 2, .."""
+    allowed = [0] * (wide + 1)
+    for count, knot in zip(counts, tree):
+        if knot[0] == "ask":
+            # What is asked for on side "next" lies behind the front.
+            places = tuple(knot[3]) if knot[2] == "next" else (0,) + tuple(knot[3])
+            for place in places:
+                allowed[place] = allowed[place] | 1 << (count + 2)
+    return allowed
 
 
 def masks_within(mask):
@@ -25,8 +39,8 @@ def masks_within(mask):
     return told
 
 
-def states_found(wide, starts, go_on, is_taking):
-    """The list of the states come to from starts, numbered as they are come to.
+def states_found(allowed, starts, go_on, is_taking):
+    """The states to begin in and the list of all that are come to from starts, numbered as they are come to.
 
     What stands for a state begins with what it awaits; go_on(own, seen, letter) tells what is come to from own by
     letter, seen the mask of the spots there.
@@ -39,12 +53,12 @@ def states_found(wide, starts, go_on, is_taking):
             found.append(own)
         return numbers[own]
 
-    begins = {seen: number_of(own) for seen, own in starts.items()}
+    begins = {seen: number_of(start) for seen, start in starts.items()}
     states = []
     while len(states) < len(found):
         own = found[len(states)]
-        moves = {seen: tuple([number_of(go_on(own, seen, letter)) for letter in range(1, wide + 1)])
-                 for seen in masks_within(own[0])}
+        moves = [{seen: number_of(go_on(own, seen, letter)) for seen in masks_within(own[0] & allowed[letter])}
+                 for letter in range(1, len(allowed))]
         states.append((own[0], is_taking(own), moves))
     return begins, states
 
@@ -60,10 +74,9 @@ def parts_of_states(states):
     for awaited in sorted(layers):
         layer = layers[awaited]
         places = {own: at for at, own in enumerate(layer)}
-        keys = [(states[own][1],) + tuple([parts[there] for seen, row in states[own][2].items() if seen > 0
-                                           for there in row]) for own in layer]
-        steps = [[places[there] for there in states[own][2][0]] for own in layer]
-        told = finest_parts(steps, keys)
+        keys = [(states[own][1],) + tuple([parts[there] for move in states[own][2] for seen, there in move.items()
+                                           if seen > 0]) for own in layer]
+        told = finest_parts([[places[move[0]] for move in states[own][2]] for own in layer], keys)
         for own, part in zip(layer, told):
             parts[own] = many + part
         many += max(told) + 1
@@ -85,29 +98,28 @@ def least_reader(live, begins, states):
     told = []
     while len(told) < len(firsts):
         awaited, is_taking, moves = states[firsts[len(told)]]
-        told.append((awaited, is_taking,
-                     {seen: tuple([number_of(there) for there in row]) for seen, row in moves.items()}))
+        told.append((awaited, is_taking, [{seen: number_of(there) for seen, there in move.items()} for move in moves]))
     return live, told_begins, told
 
 
-def built(wide, live, start_at, go_on, is_taking):
+def built(allowed, live, start_at, go_on, is_taking):
     """The reader of what is come to; start_at(seen) tells where one begins if seen are the live spots at the front."""
-    starts = {seen: start_at(seen) for seen in masks_within(live)}
-    begins, states = states_found(wide, starts, go_on, is_taking)
+    starts = {seen: start_at(seen) for seen in masks_within(live & allowed[0])}
+    begins, states = states_found(allowed, starts, go_on, is_taking)
     return least_reader(live, begins, states)
 
 
 def say_reader(wide, yes):
     """The reader of a knot that says yes."""
-    return 0, {0: 0}, [(0, yes, {0: (0,) * wide})]
+    return 0, {0: 0}, [(0, yes, [{0: 0} for _ in range(wide)])]
 
 
 def gone_on(reader, own, seen, letter):
     """The state of reader to go on in from state own, whatever else than its live spots seen tells of, too."""
-    return reader[2][own][2][seen & reader[0]][letter - 1]
+    return reader[2][own][2][letter - 1][seen & reader[0]]
 
 
-def onward_reader(wide, behind, spot, own_mask, letters):
+def onward_reader(allowed, behind, spot, own_mask, letters):
     """The reader of an ASK on side "next" that finds the spot of own_mask, behind the reader of the knot behind it."""
     spot_mask = 1 << spot
     live = (behind[0] & ~own_mask) | (spot_mask & ~BOTH_ENDS)
@@ -127,10 +139,10 @@ def onward_reader(wide, behind, spot, own_mask, letters):
     def is_taking(own):
         return behind[2][own[2]][1]
 
-    return built(wide, live, start_at, go_on, is_taking)
+    return built(allowed, live, start_at, go_on, is_taking)
 
 
-def backward_reader(wide, behind, spot, own_mask, letters):
+def backward_reader(allowed, behind, spot, own_mask, letters):
     """The reader of an ASK on side "last" that finds the spot of own_mask, behind the reader of the knot behind it."""
     spot_mask = 1 << spot
     live = (behind[0] & ~own_mask) | (spot_mask & ~BOTH_ENDS)
@@ -154,10 +166,10 @@ def backward_reader(wide, behind, spot, own_mask, letters):
     def is_taking(own):
         return behind[2][own[1]][1]
 
-    return built(wide, live, start_at, go_on, is_taking)
+    return built(allowed, live, start_at, go_on, is_taking)
 
 
-def order_reader(wide, readers, one, other):
+def order_reader(allowed, readers, one, other):
     """The reader of a knot that orders spots one and other, readers those of the knots ahead, same, behind."""
     one_mask, other_mask = 1 << one, 1 << other
     live = ((one_mask | other_mask) & ~BOTH_ENDS) | readers[0][0] | readers[1][0] | readers[2][0]
@@ -182,12 +194,13 @@ def order_reader(wide, readers, one, other):
         at, state = own[1][len(own[1]) // 2]
         return readers[at][2][state][1]
 
-    return built(wide, live, start_at, go_on, is_taking)
+    return built(allowed, live, start_at, go_on, is_taking)
 
 
 def reader_of(wide, tree):
     """The reader of knot 0 of tree, which awaits nothing."""
     counts = asks_ahead(tree)
+    allowed = spots_allowed(wide, tree, counts)
     readers = {}
     for own in reversed(range(len(tree))):
         knot = tree[own]
@@ -197,12 +210,12 @@ def reader_of(wide, tree):
         elif knot[0] == "order":
             readers[own] = behind[0]
             if behind[0] != behind[1] or behind[0] != behind[2]:
-                readers[own] = order_reader(wide, behind, knot[1], knot[2])
+                readers[own] = order_reader(allowed, behind, knot[1], knot[2])
         else:
             # A spot that no later knot names can be forgotten.
             readers[own] = behind[0]
             own_mask = 1 << (counts[own] + 2)
             if behind[0][0] & own_mask != 0:
                 ask_reader = onward_reader if knot[2] == "next" else backward_reader
-                readers[own] = ask_reader(wide, behind[0], knot[1], own_mask, knot[3])
+                readers[own] = ask_reader(allowed, behind[0], knot[1], own_mask, knot[3])
     return readers[0]

@@ -7,10 +7,10 @@ from nextsuch.doings import doings, span
 from nextsuch.errors import CanNot, TooMuch, Unfit
 from nextsuch.kinds import KINDS, bar, is_bar, is_of, kinds, texts_by
 from nextsuch.machines import contrary, mirrored
-from tests.plain import ODD_THINGS, plain_least, plain_takes, resized, swapped, texts_to
+from tests.plain import ODD_THINGS, plain_least, plain_takes, resized, swapped, texts_to, thrown_machines
 from tests.plain_doings import (
     AHEAD, BEGINS, EDGES, EVEN, FAT, LAST, ODD, PAIRS, SMALL, SOME, SOONER, TEXTS, TWICE, WITH_200, WITH_201, WITH_203,
-    is_plain_bar, plain_doing, plain_kinds, plain_long, plain_then, plain_two, ring)
+    is_plain_bar, plain_doing, plain_kinds, plain_long, plain_then, plain_two, ring, thrown_in_order)
 
 AGAIN = ("asks", (), (1, 2), (1,), ())
 SOME_BAR = ("looks", (), (1,), (2,), ())
@@ -137,6 +137,20 @@ class Bars(unittest.TestCase):
                     self.assertNotIn("[", repr(found))
                     self.assertTrue(is_plain_bar(machine, found), (machine, found))
                     self.assertIs(is_bar(machine, found), True, (machine, found))
+
+    def test_of_greater_machines(self):
+        tried, longest = 0, 0
+        for machine in thrown_in_order(22, 300) + thrown_machines(23, 120):
+            for kind in ALL_KINDS:
+                try:
+                    found = bar(machine, kind)
+                except (CanNot, TooMuch):
+                    continue
+                self.assertTrue(is_plain_bar(machine, found), (machine, found))
+                tried += 1
+                longest = max([longest] + [len(text) for text in found[1:] if kind == "backward"])
+        self.assertGreater(tried, 500)
+        self.assertGreater(longest, 4)
 
     def test_of_looks_both_are_as_long_as_the_span(self):
         for machine, own, told in TOLD:

@@ -126,6 +126,21 @@ class Language(unittest.TestCase):
                 for own in node.names:
                     self.assertIn(own.name, defined[node.module.split(".")[1] + ".py"], name)
 
+    def test_no_import_and_no_class_has_another_meaning(self):
+        for name, tree in trees().items():
+            outer = {own for node in tree.body if isinstance(node, (ast.ImportFrom, ast.ClassDef))
+                     for own in bound_names(node)}
+            inner = [own for node in ast.walk(tree) if not isinstance(node, (ast.ImportFrom, ast.ClassDef))
+                     for own in bound_names(node)]
+            self.assertEqual(outer & {*inner}, set(), name)
+
+    def test_each_import_is_used(self):
+        for name, tree in trees().items():
+            used = {node.id for node in ast.walk(tree) if isinstance(node, ast.Name)}
+            for node in tree.body:
+                if isinstance(node, ast.ImportFrom):
+                    self.assertEqual({*bound_names(node)} - used, set(), name)
+
     def test_statements(self):
         for name, node in all_nodes():
             if isinstance(node, ast.stmt):

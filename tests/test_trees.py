@@ -345,6 +345,18 @@ class Things(unittest.TestCase):
             self.assertFalse(is_plain_tree(1, bad), bad)
             self.assertIs(is_tree(1, bad), False, bad)
 
+    def test_a_knot_of_another_word(self):
+        # All other knots are gone on to from elsewhere, too.
+        fork, yes = ("order", 0, 1, 1, 2, 2), ("say", True)
+        self.assertIs(is_tree(1, (fork, ("order", 0, 1, 2, 2, 2), yes)), True)
+        self.assertIs(is_tree(1, (fork, ("ask", 0, "next", (1,), 2), yes)), True)
+        for word in ("orders", "say", "ask", "", None, True, 0, (), ("order",), ["order"]):
+            self.assertIs(is_tree(1, (fork, (word, 0, 1, 2, 2, 2), yes)), False)
+        for word in ("asks", "say", "order", "", None, False, ("ask",)):
+            self.assertIs(is_tree(1, (fork, (word, 0, "next", (1,), 2), yes)), False)
+        for word in ("says", "ask", "order", "", None, True, ("say",)):
+            self.assertIs(is_tree(1, ((word, True),)), False)
+
     def test_equally_many_asks_on_all_ways(self):
         fork, ask, yes = ("order", 0, 1, 1, 2, 2), ("ask", 0, "next", (1,), 2), ("say", True)
         self.assertIs(is_tree(1, (fork, ask, yes)), True)
