@@ -73,7 +73,7 @@ def two_ways_or_none(chain):
     def is_end(own):
         return own == (many, many, True)
 
-    return least_text((0, 0, False), go_on, is_end)
+    return least_text([(0, 0, False)], go_on, is_end)
 
 
 def is_single(chain):
@@ -100,7 +100,7 @@ def meeting(one, other):
     def is_end(pair):
         return pair == last
 
-    text = least_text((0, 0), go_on, is_end)
+    text = least_text([(0, 0)], go_on, is_end)
     if text is None:
         raise CanNot()
     return text

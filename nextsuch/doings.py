@@ -33,15 +33,18 @@ def doing_of(machine, text):
     return done_by(least(machine)[0], text)
 
 
-def own_doings(machine):
-    """The steps of the own DOINGS by one letter more, numbered as their least TEXTS come, and the list of them."""
+def own_doings(machine, most=MOST_DOINGS):
+    """The steps of the own DOINGS by one letter more, numbered as their least TEXTS come, and the list of them.
+
+    Raise TooMuch if there are more than most.
+    """
     steps = least(machine)[0]
     letters = list(zip(*steps))
 
     def go_on(doing, letter):
         return then(doing, letters[letter - 1])
 
-    return explored(len(letters), does_nothing(len(steps)), go_on, MOST_DOINGS)
+    return explored(len(letters), does_nothing(len(steps)), go_on, most)
 
 
 def number_of(found, doing):

@@ -3,15 +3,15 @@
 from nextsuch.machines import MOST_LETTERS
 
 
-def least_text(start, go_on, is_end):
-    """The least TEXT by which one can come from start to what is_end tells of; None if there is none.
+def least_text(starts, go_on, is_end):
+    """The least TEXT by which one can come from one of starts to what is_end tells of; None if there is none.
 
     go_on(own, letter) tells the list of all to which one can come from own by letter.
     """
     # What is first come to by one TEXT stands together, so that all that comes of it by a lesser letter stands ahead
     # of what comes of it by a greater one.
-    groups = [((), [start])]
-    seen = {start: True}
+    groups = [((), starts)]
+    seen = {own: True for own in starts}
     at = 0
     while at < len(groups):
         text, group = groups[at]

@@ -1,8 +1,10 @@
 """Calls of all functions of the interface, errors among them: each with its arguments by the names shown."""
 
-from nextsuch import asks, chains, classes, doings, judged, kinds, machines, trees, unfolded, words
+from nextsuch import (
+    against, asks, chains, classes, doings, judged, kinds, looks, machines, made, namings, trees, unfolded, words)
 from tests.plain import KNOWN, ODD_THINGS, WORDS, all_letters, texts_to, thrown_machines
-from tests.plain_doings import EDGES, PAIRS, SOONER, TWICE, WITH_200, WITH_201, ring
+from tests.plain_doings import EDGES, PAIRS, SOONER, TWICE, WITH_200, WITH_201, ring, thrown_in_order
+from tests.plain_looks import LOOK_BAR, thrown_look_trees
 from tests.plain_trees import FIRST_2, LOOSE, NO, YES, thrown_chains, thrown_trees
 
 TEXTS = texts_to(2, 2) + [(2, 1, 3, 1), (3, 3, 2, 1, 1, 2)]
@@ -166,8 +168,71 @@ def calls_with_more_things():
             yield chains.is_chain, {"wide": wide, "thing": thing}
 
 
+LOOK_TREES = thrown_look_trees(83, 30)
+
+
+def calls_of_made():
+    """Calls of made.py and against.py, likewise."""
+    ordered = thrown_in_order(84, 24) + [judged.machine_of(wide, tree) for wide, tree in TREES[::5]]
+    for at, machine in enumerate(MACHINES[::4] + ordered + [TWICE, SOONER, WITH_200, WITH_201, ring(25)] + EDGES):
+        wide = len(machine[0][0])
+        for function in (made.made, made.made_onward, made.made_backward, made.made_coming):
+            yield function, {"machine": machine}
+        for tree in [own for own_wide, own in TREES[at % 11::11] if own_wide == wide] + [YES]:
+            yield against.against, {"machine": machine, "tree": tree}
+    for at, (wide, chain) in enumerate(CHAINS):
+        some = (chain,) + tuple(own for own_wide, own in CHAINS[at::8] if own_wide == wide)
+        yield made.of_chains, {"wide": wide, "chains": some[:1 + at % 3]}
+    yield made.of_chains, {"wide": 3, "chains": ()}
+    for bar in BARS:
+        for number in (0, 1, 2, 7, 10 ** 20):
+            yield against.wall, {"bar": bar, "number": number}
+            yield against.asks_needed, {"bar": bar, "size": number}
+
+
+def calls_of_looks():
+    """Calls of looks.py, likewise."""
+    for at, machine in enumerate(MACHINES[::3] + [WITH_201, ring(6), ring(61)] + EDGES):
+        yield looks.made_looks, {"machine": machine}
+        for wide, tree in LOOK_TREES[at % 5::5]:
+            if wide == len(machine[0][0]):
+                yield looks.looks_wrong, {"machine": machine, "tree": tree}
+                yield looks.looks_right, {"machine": machine, "tree": tree}
+    for wide, tree in LOOK_TREES:
+        yield looks.looks_most, {"tree": tree}
+        for text in texts_to(wide, 2) + [(1, wide, 1, 1, wide)]:
+            yield looks.look, {"tree": tree, "text": text}
+        if wide > 1:
+            for bar in (LOOK_BAR, BARS[4]):
+                yield looks.looks_against, {"bar": bar, "tree": tree}
+    for number in (2, 3, 6):
+        yield looks.exchanged, {"bar": BARS[4], "number": number}
+    many = (("length", (1,) * 61), ("say", True))
+    yield looks.looks_right, {"machine": EDGES[0], "tree": many}
+
+
+def calls_of_namings():
+    """Calls of namings.py, likewise."""
+    for one in NAMINGS:
+        for other in NAMINGS + (NAMINGS[0] * 2,):
+            for function in (namings.are_one, namings.order_of, namings.unlike_named):
+                yield function, {"wide": 3, "one": one, "other": other}
+        yield namings.letters_there, {"wide": 3, "naming": one}
+        for what in (1, 2, 3, "front", "back"):
+            yield namings.text_with, {"wide": 3, "naming": one, "what": what}
+
+
+def calls_with_still_more_things():
+    """Calls of is_against and is_look_tree."""
+    for thing in ODD_THINGS + tuple(own for _, own in LOOK_TREES) + (((), (1,)), ((1, 2, 1, 2), (1, 2, 1, 1, 2))):
+        for wide in (1, 2, 3):
+            yield looks.is_look_tree, {"wide": wide, "thing": thing}
+        yield against.is_against, {"machine": PAIRS, "tree": YES, "thing": thing}
+
+
 CALLS = [*calls_of_words(), *calls_of_machines(), *calls_of_doings(), *calls_of_asks(), *calls_of_trees(),
-         *calls_of_chains()]
-THING_CALLS = [*calls_with_things(), *more_calls_with_things(), *calls_with_more_things()]
+         *calls_of_chains(), *calls_of_made(), *calls_of_looks(), *calls_of_namings()]
+THING_CALLS = [*calls_with_things(), *more_calls_with_things(), *calls_with_more_things(),
+               *calls_with_still_more_things()]
 # All other functions tell several results as a tuple that the document names.
-LIST_FUNCTIONS = (chains.ways, unfolded.unfolded)
+LIST_FUNCTIONS = (chains.ways, unfolded.unfolded, looks.exchanged)

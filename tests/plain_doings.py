@@ -218,3 +218,5 @@ def thrown_in_order(seed, many):
 NAMED = [TWICE, PAIRS, SOONER, AHEAD, EVEN, BEGINS, SOME, ODD, LAST, FAT]
 SMALL = kept_small([own for _, own, _ in KNOWN] + NAMED + EDGES + some_of_few_states() + thrown_in_order(21, 300), 32)
 TEXTS = {wide: texts_to(wide, {1: 9, 2: 6, 3: 4}[wide]) for wide in (1, 2, 3)}
+# The same machines, each with its least one and the kinds that it is of.
+SMALL_KINDS = [(machine, own, plain_kinds(own, told)) for machine, own, told in SMALL]

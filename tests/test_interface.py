@@ -39,6 +39,18 @@ INTERFACE = {
     "nextsuch.judged": (
         "machine_of(wide, tree)", "machine_of_chains(wide, chains)", "is_right(machine, tree)",
         "wrong(machine, tree)", "are_alike(wide, one, other)", "unlike(wide, one, other)"),
+    "nextsuch.made": (
+        "made(machine)", "made_onward(machine)", "made_backward(machine)", "made_coming(machine)",
+        "of_chains(wide, chains)"),
+    "nextsuch.against": (
+        "against(machine, tree)", "is_against(machine, tree, thing)", "wall(bar, number)", "asks_needed(bar, size)"),
+    "nextsuch.looks": (
+        "is_look_tree(wide, thing)", "look(tree, text)", "looks_most(tree)", "made_looks(machine)",
+        "looks_wrong(machine, tree)", "looks_right(machine, tree)", "exchanged(bar, number)",
+        "looks_against(bar, tree)"),
+    "nextsuch.namings": (
+        "are_one(wide, one, other)", "order_of(wide, one, other)", "unlike_named(wide, one, other)",
+        "letters_there(wide, naming)", "text_with(wide, naming, what)"),
     "nextsuch.errors": ("NoPlace(place)", "BadText(line)", "CanNot()", "TooMuch()", "Unfit()"),
 }
 

@@ -9,13 +9,13 @@ from nextsuch.kinds import KINDS, bar, is_bar, is_of, kinds, texts_by
 from nextsuch.machines import contrary, mirrored
 from tests.plain import ODD_THINGS, plain_least, plain_takes, resized, swapped, texts_to, thrown_machines
 from tests.plain_doings import (
-    AHEAD, BEGINS, EDGES, EVEN, FAT, LAST, ODD, PAIRS, SMALL, SOME, SOONER, TEXTS, TWICE, WITH_200, WITH_201, WITH_203,
-    is_plain_bar, plain_doing, plain_kinds, plain_long, plain_then, plain_two, ring, thrown_in_order)
+    AHEAD, BEGINS, EDGES, EVEN, FAT, LAST, ODD, PAIRS, SMALL_KINDS, SOME, SOONER, TEXTS, TWICE, WITH_200, WITH_201,
+    WITH_203, is_plain_bar, plain_doing, plain_long, plain_then, plain_two, ring, thrown_in_order)
 
 AGAIN = ("asks", (), (1, 2), (1,), ())
 SOME_BAR = ("looks", (), (1,), (2,), ())
 ALL_KINDS = ("asks", "backward", "coming", "looks", "onward")
-TOLD = [(machine, own, plain_kinds(own, told)) for machine, own, told in SMALL]
+TOLD = SMALL_KINDS
 
 
 class Examples(unittest.TestCase):

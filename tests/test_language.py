@@ -189,10 +189,15 @@ class Language(unittest.TestCase):
             if isinstance(node, ast.Name) and node.id not in bound:
                 self.assertIn(node.id, BUILTINS, (name, node.lineno))
 
-    def test_methods_of_values(self):
+    def test_methods_of_values_and_own_ones(self):
+        own_methods = {inner.name for _, node in all_nodes() if isinstance(node, ast.ClassDef)
+                       for inner in node.body if isinstance(inner, ast.FunctionDef)}
+        attributes = {node.attr for _, node in all_nodes()
+                      if isinstance(node, ast.Attribute) and isinstance(node.ctx, ast.Store)}
+        self.assertEqual(own_methods & attributes, set())
         for name, node in all_nodes():
             if isinstance(node, ast.Call) and isinstance(node.func, ast.Attribute):
-                self.assertIn(node.func.attr, METHODS, (name, node.lineno))
+                self.assertIn(node.func.attr, METHODS | own_methods, (name, node.lineno))
 
     def test_sets_are_sorted_counted_or_asked(self):
         for name, tree in trees().items():
