@@ -159,12 +159,16 @@ def bar(machine, kind):
     return told
 
 
+def texts_of_bar(word):
+    """How many TEXTS a BAR of this word has."""
+    return 2 if word == "coming" else 4
+
+
 def is_bar_shape(wide, thing):
     """Whether thing is a word of KINDS with as many TEXTS, of letters to wide, as belong there."""
     if not isinstance(thing, tuple) or len(thing) == 0 or thing[0] not in KINDS:
         return False
-    many = 2 if thing[0] == "coming" else 4
-    return len(thing) == many + 1 and all([is_text(wide, own) for own in thing[1:]])
+    return len(thing) == texts_of_bar(thing[0]) + 1 and all([is_text(wide, own) for own in thing[1:]])
 
 
 def two_of_bar(thing):

@@ -1,7 +1,8 @@
 """Calls of all functions of the interface, errors among them: each with its arguments by the names shown."""
 
 from nextsuch import (
-    against, asks, chains, classes, doings, judged, kinds, looks, machines, made, namings, trees, unfolded, words)
+    against, asks, chains, changes, classes, desk, doings, judge, judged, kinds, looks, machines, made, namings, trees,
+    unfolded, words, writing)
 from tests.plain import KNOWN, ODD_THINGS, WORDS, all_letters, texts_to, thrown_machines
 from tests.plain_doings import EDGES, PAIRS, SOONER, TWICE, WITH_200, WITH_201, ring, thrown_in_order
 from tests.plain_looks import LOOK_BAR, thrown_look_trees
@@ -230,9 +231,70 @@ def calls_with_still_more_things():
         yield against.is_against, {"machine": PAIRS, "tree": YES, "thing": thing}
 
 
+def calls_of_changes():
+    """Calls of changes.py, likewise."""
+    for at, (wide, tree) in enumerate(TREES):
+        for text in texts_to(wide, 2)[at % 2::2] + [(1, wide, 1, 1, wide)]:
+            for function in (changes.can_turn, changes.turning):
+                yield function, {"wide": wide, "tree": tree, "text": text}
+            yield changes.gone_over, {"tree": tree, "text": text}
+            for change in (("put", 1, wide), ("drop", 2), ("turn", 1, 1), ("put", 4, 1)):
+                yield changes.touched_by, {"tree": tree, "text": text, "change": change}
+                yield changes.asked_again, {"tree": tree, "text": text, "change": change}
+    for text in TEXTS:
+        for place in (-1, 0, 1, 2, len(text) + 1, len(text) + 2):
+            for change in (("put", 2, 1), ("drop", 1), ("turn", 3, 2), ("drop", 9)):
+                yield changes.place_behind, {"text": text, "change": change, "place": place}
+
+
+def calls_of_writing():
+    """Calls of writing.py and desk.py, likewise."""
+    values = [("machine", "machine", MACHINES[::3]), ("tree", "tree", [own for _, own in TREES[::2]]),
+              ("looker", "looker", [own for _, own in LOOK_TREES[::2]]), ("naming", "naming", list(NAMINGS)),
+              ("chains", "chains", [(), *[(own,) for _, own in CHAINS[::4]], tuple(own for _, own in CHAINS[:6])]),
+              ("bar", "bar", list(BARS)), ("text", "row", TEXTS)]
+    for kind, name, some in values:
+        for value in some:
+            write, read = getattr(writing, "write_" + kind), getattr(writing, "read_" + kind)
+            yield write, {name: value}
+            for written in (write(value), write(value) + "\n", write(value).partition("\n")[0], write(value).replace("1", "4")):
+                yield read, {**({} if kind == "machine" else {"wide": 3}), "written": written}
+    for text in ("", "shows", "put 1 1\nput 1 2\nshows\nundo\nmoved\nagain 0", "row\n text 1 2\ntree\n tree\n say yes\nanswers",
+                 "shows\n\nmany", "undo\nwide 9"):
+        yield desk.desk, {"text": text}
+
+
+CLAIMS = (("kind", SOONER, "asks"), ("kind", PAIRS, "asks"), ("kind", WITH_201, "looks"), ("right", TWICE, YES),
+          ("alike", 2, YES, YES), ("alike", 3, YES, NO), ("single", 2, LOOSE), ("single", 3, FIRST_2),
+          ("apart", 3, FIRST_2, LOOSE), ("one", 3, NAMINGS[0], NAMINGS[1]), ("one", 3, NAMINGS[2], NAMINGS[2]),
+          ("kind", PAIRS, "odd"), ("alike", 4, YES, NO), "kind", None, ())
+
+
+def calls_of_judge():
+    """Calls of judge.py, likewise."""
+    for at, claim in enumerate(CLAIMS):
+        yield judge.is_so, {"claim": claim}
+        yield judge.paper, {"claim": claim}
+        for claims in (CLAIMS[:at], CLAIMS[:3] + CLAIMS[3:at][::-1], CLAIMS[4:6]):
+            yield judge.comes_of, {"claim": claim, "claims": claims}
+            yield judge.first_false, {"claims": claims}
+            yield judge.verdicts, {"claims": claims, "things": (None, "x", 1, True)[:len(claims)]}
+
+
+def calls_with_the_last_things():
+    """Calls of is_claim, is_paper_for, is_paper_against and is_request."""
+    for thing in ODD_THINGS + CLAIMS + ("put 1 1", "tree", "row\n text", (1, 2), (2, 1, 1), ("asks", (), (1, 2), (1,), ())):
+        yield judge.is_claim, {"thing": thing}
+        yield desk.is_request, {"thing": thing}
+        for claim in (CLAIMS[1], CLAIMS[4], CLAIMS[5], CLAIMS[6]):
+            yield judge.is_paper_for, {"claim": claim, "thing": thing}
+            yield judge.is_paper_against, {"claim": claim, "thing": thing}
+
+
 CALLS = [*calls_of_words(), *calls_of_machines(), *calls_of_doings(), *calls_of_asks(), *calls_of_trees(),
-         *calls_of_chains(), *calls_of_made(), *calls_of_looks(), *calls_of_namings()]
+         *calls_of_chains(), *calls_of_made(), *calls_of_looks(), *calls_of_namings(), *calls_of_changes(),
+         *calls_of_writing(), *calls_of_judge()]
 THING_CALLS = [*calls_with_things(), *more_calls_with_things(), *calls_with_more_things(),
-               *calls_with_still_more_things()]
+               *calls_with_still_more_things(), *calls_with_the_last_things()]
 # All other functions tell several results as a tuple that the document names.
-LIST_FUNCTIONS = (chains.ways, unfolded.unfolded, looks.exchanged)
+LIST_FUNCTIONS = (chains.ways, unfolded.unfolded, looks.exchanged, judge.verdicts, desk.desk)

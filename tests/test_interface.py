@@ -51,6 +51,18 @@ INTERFACE = {
     "nextsuch.namings": (
         "are_one(wide, one, other)", "order_of(wide, one, other)", "unlike_named(wide, one, other)",
         "letters_there(wide, naming)", "text_with(wide, naming, what)"),
+    "nextsuch.changes": (
+        "gone_over(tree, text)", "touched_by(tree, text, change)", "asked_again(tree, text, change)",
+        "can_turn(wide, tree, text)", "turning(wide, tree, text)", "place_behind(text, change, place)"),
+    "nextsuch.writing": (
+        "write_machine(machine)", "write_tree(tree)", "write_looker(looker)", "write_naming(naming)",
+        "write_chains(chains)", "write_bar(bar)", "write_text(row)", "read_machine(written)", "read_tree(wide, written)",
+        "read_looker(wide, written)", "read_naming(wide, written)", "read_chains(wide, written)",
+        "read_bar(wide, written)", "read_text(wide, written)"),
+    "nextsuch.judge": (
+        "is_claim(thing)", "is_so(claim)", "paper(claim)", "is_paper_for(claim, thing)",
+        "is_paper_against(claim, thing)", "verdicts(claims, things)", "comes_of(claim, claims)", "first_false(claims)"),
+    "nextsuch.desk": ("desk(text)", "is_request(thing)"),
     "nextsuch.errors": ("NoPlace(place)", "BadText(line)", "CanNot()", "TooMuch()", "Unfit()"),
 }
 

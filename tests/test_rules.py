@@ -66,7 +66,7 @@ class Calls(unittest.TestCase):
         for function, named in CALLS:
             for listing in LISTINGS:
                 told = outcome(function, **{name: listed(own, listing) for name, own in named.items()})
-                if function in LIST_FUNCTIONS and "TooMuch" not in told:
+                if function in LIST_FUNCTIONS and isinstance(told, str):
                     self.assertEqual(told[0], "[")
                     told = told[1:]
                 self.assertNotIn("[", told)
@@ -75,7 +75,7 @@ class Calls(unittest.TestCase):
         for function, named in CALLS:
             if function in LIST_FUNCTIONS:
                 told = outcome(function, **named)
-                if "TooMuch" not in told:
+                if isinstance(told, str):
                     function(**named).clear()
                 self.assertEqual(outcome(function, **named), told)
 
