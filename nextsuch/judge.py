@@ -117,7 +117,7 @@ def speaks_against(claim, thing):
         return answer(claim[2], thing) != takes(claim[1], thing)
     if word == "single":
         return counts_of_ways(claim[2], thing)[0][0] > 1
-    _, _, one, other = claim
+    one, other = claim[2], claim[3]
     if word == "alike":
         return answer(one, thing) != answer(other, thing)
     if word == "apart":

@@ -78,7 +78,7 @@ class Looker:
             self.knots.append(knot)
         return self.numbers[knot]
 
-    def tree(self, start):
+    def begun_at(self, start):
         """The LOOK TREE that is begun at knot start."""
         kept = {start: True}
         for own in range(start, -1, -1):
@@ -86,8 +86,12 @@ class Looker:
                 kept.update({there: True for there in leads_of_look(self.knots[own])})
         order = sorted(kept, reverse=True)
         numbers = {own: at for at, own in enumerate(order)}
-        return tuple([knot[:-1] + (tuple([numbers[there] for there in knot[-1]]),) if knot[0] != "say" else knot
-                      for knot in [self.knots[own] for own in order]])
+        tree = []
+        for own in order:
+            knot = self.knots[own]
+            leads = tuple([numbers[there] for there in leads_of_look(knot)])
+            tree.append(knot if knot[0] == "say" else knot[:-1] + (leads,))
+        return tuple(tree)
 
 def layers_of(start, go_on, many):
     """The list of what is come to from start by no letter, by one letter, .., by so many."""
@@ -126,9 +130,9 @@ def front_looks(looker, steps, says, backs, sizes):
     """
     span, more = sizes
     layers = layers_of(0, lambda layer: with_one_more(steps, layer), span + more)
-    # If there are more letters than those of a span and more, these and the last ones of a span tell all.
-    told = {state: looker.put(("look", "next", span + more, (says[state],) + (backs[state],) * len(steps[0])))
-            for state in layers[span + more]}
+    # What a TEXT of a span does it does twice over, too: so these letters and the last ones of a span tell all, also
+    # where some of them are the same.
+    told = {state: backs[state] for state in layers[span + more]}
     for number in reversed(range(span + more)):
         fresh = {}
         for state in layers[number]:
@@ -150,7 +154,7 @@ def made_looks(machine):
     says = [looker.put(("say", mark)) for mark in end_marks(own)]
     backs = back_looks(looker, (steps, found), says, size)
     fronts = [front_looks(looker, own[0], says, backs, (size, more)) for more in range(size)]
-    return looker.tree(looker.put(("length", tuple(fronts))))
+    return looker.begun_at(looker.put(("length", tuple(fronts))))
 
 
 def looked_to(tree, side):

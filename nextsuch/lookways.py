@@ -34,7 +34,7 @@ def said_alone(tree):
 
 def place_looked_at(knot, size):
     """The place of a TEXT of size letters at which knot looks, None if it has too few letters."""
-    _, side, number, _ = knot
+    side, number = knot[1], knot[2]
     if size <= number:
         return None
     return number + 1 if side == "next" else size - number

@@ -1,8 +1,8 @@
 """Trees made: right for a machine, of one manner or of both, and for what fits chains."""
 
-from nextsuch.chains import is_single
+from nextsuch.chains import chain_mirrored, counts_of_ways, is_single
 from nextsuch.doings import own_doings
-from nextsuch.errors import CanNot, Unfit
+from nextsuch.errors import CanNot, TooMuch, Unfit
 from nextsuch.growing import tree_by, tree_of
 from nextsuch.judged import machine_of_chains
 from nextsuch.kinds import bar_or_none, is_of
@@ -98,8 +98,33 @@ def made_coming(machine):
     return tree_of(key_at(0, 0), knot_of)
 
 
+def mask_at(tables, read):
+    """The mask of the places at which there are ways in the rows of number read of all tables, one behind the other."""
+    counts = [count for table in tables for count in table[read]]
+    return sum([1 << at for at, count in enumerate(counts) if count > 0])
+
+
+def are_surely_many(chains):
+    """Whether the TEXTS that fit one of chains are surely those of a MACHINE of more own DOINGS than are made for."""
+    # Two beginnings that some rest tells apart have unlike DOINGS. Where the MACHINE would be very great those of the
+    # marks are enough to see it, without the MACHINE.
+    ahead, behind = {}, []
+    for _, marks in chains:
+        text = tuple(marks)
+        rests = [counts_of_ways(chain, text) for chain in chains]
+        beginnings = [[row[::-1] for row in reversed(counts_of_ways(chain_mirrored(chain), text[::-1]))]
+                      for chain in chains]
+        for read in range(len(text) + 1):
+            behind.append(mask_at(rests, read))
+            ahead[mask_at(beginnings, read)] = True
+    rows = [tuple([mask & other != 0 for other in behind]) for mask in ahead]
+    return len(set(rows)) > MOST_MADE
+
+
 def of_chains(wide, chains):
     """A TREE that answers True just the TEXTS that fit one of chains, all single."""
     if not all([is_single(chain) for chain in chains]):
         raise Unfit()
+    if are_surely_many(chains):
+        raise TooMuch()
     return made(machine_of_chains(wide, chains))

@@ -208,10 +208,10 @@ class Papers(unittest.TestCase):
             self.assertEqual((is_so(claim), is_paper_for(claim, ()), is_paper_against(claim, ())), (False, False, False))
 
     def test_things_of_every_kind(self):
-        for claim in Claims.GOOD + (("alike", 2, YES, NO), ("kind", PAIRS, "asks"), ("one", 1, N_1, N_11), ("single", 2, LOOSE)):
+        for claim in Claims.GOOD + (("right", BEGINS, SHORT), ("apart", 2, LOOSE, LOOSE), ("alike", 2, YES, NO), ("kind", PAIRS, "asks"), ("one", 1, N_1, N_11), ("single", 2, LOOSE)):
             so, wide = is_so(claim), wide_of_claim(claim)
             good = paper(claim)
-            things = ODD_THINGS + (good, list(good), [list(own) if type(own) is tuple else own for own in good], (good,), 3,
+            things = ODD_THINGS + ((3,), (1, 3), (2, 2, 1), good, list(good), [list(own) if type(own) is tuple else own for own in good], (good,), 3,
                                    *swapped(good, ODD_THINGS[:20]))
             for thing in things:
                 self.assertIs(is_paper_for(claim, thing), so and type(thing) is tuple and thing == (), (claim, thing))

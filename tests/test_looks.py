@@ -123,7 +123,7 @@ class Things(unittest.TestCase):
 
     def test_each_condition_alone(self):
         for thing in (
-                (), (("say", 1),), (("say", True), ("say", False)), (("say", True, True),), (("say",),), (("tell", True),),
+                (), (("length", ()),), (("say", 1),), (("say", True), ("say", False)), (("say", True, True),), (("say",),), (("tell", True),),
                 (("length", ()), ("say", True)), (("length", (0,)), ("say", True)), (("length", (2,)), ("say", True)),
                 (("length", (1, 1), 2), ("say", True)), (("look", "next", -1, (1, 1)), ("say", True)),
                 (("look", "back", 0, (1, 1)), ("say", True)), (("look", "next", True, (1, 1)), ("say", True)),

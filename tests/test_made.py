@@ -2,9 +2,9 @@
 
 import unittest
 
-from nextsuch.chains import is_single
+from nextsuch.chains import chain_mirrored, is_single
 from nextsuch.errors import CanNot, TooMuch, Unfit
-from nextsuch.judged import are_alike, is_right, machine_of
+from nextsuch.judged import are_alike, is_right, machine_of, machine_of_chains
 from nextsuch.kinds import kinds
 from nextsuch.machines import contrary, joined, mirrored, takes
 from nextsuch.made import made, made_backward, made_coming, made_onward, of_chains
@@ -30,6 +30,12 @@ def line(many):
 
 def answers(tree, text):
     return plain_gone(tree, text)[2]
+
+
+def tree_of_idle():
+    """An onward tree made of a machine some of whose states are left by two letters, some by three."""
+    return made_onward((((1, 2, 3), (4, 3, 2), (4, 2, 3), (5, 4, 6), (6, 5, 7), (6, 7, 6), (7, 6, 6), (7, 7, 7)),
+                        (0, 1, 3, 4, 6)))
 
 
 # Machines that trees tell: most are of "asks" alone.
@@ -162,6 +168,34 @@ class Made(unittest.TestCase):
             self.check(machine, tree)
             self.assertGreater(len(tree), 90)
 
+    def test_hard_onward_ones(self):
+        # From STATE to STATE another number of letters leads on, so idle ASKS are asked.
+        for machine in ((((1, 2, 3), (4, 3, 2), (4, 2, 3), (5, 4, 6), (6, 5, 7), (6, 7, 6), (7, 6, 6), (7, 7, 7)),
+                         (0, 1, 3, 4, 6)),
+                        (((1, 2, 3), (2, 4, 5), (6, 7, 5), (1, 1, 4), (7, 6, 2), (5, 5, 5), (5, 6, 6), (7, 6, 5)),
+                         (0, 1, 3, 4, 6, 7)),
+                        (((1, 1, 0), (1, 2, 3), (3, 4, 2), (3, 3, 3), (4, 4, 3)), (0, 2))):
+            if "onward" in kinds(machine):
+                for own, function in ((machine, made_onward), (mirrored(machine), made_backward)):
+                    tree = function(own)
+                    self.check(own, tree)
+                    self.assertLess(len(tree), 100)
+        self.assertIn(("ask", 1, "next", (1,)), [knot[:4] for knot in tree_of_idle()])
+
+    def test_what_was_gone_over_matters(self):
+        # Ahead of the first 3 a text that begins with 1 and ends with 2; 1, 2 and 1 in this order; and such.
+        full = (1, 2, 3)
+        for sets, marks in ((((), (1, 2), (), full), (1, 2, 3)), ((((2,), (1,), (), full), (1, 2, 3))),
+                            (((1, 2), (1,), full), (2, 3)), (((2,), (1, 2), full), (1, 3)),
+                            ((full, (), (1, 2), ()), (3, 1, 2)), ((full, (), (1,), (1, 2)), (3, 1, 2)),
+                            (((2,), (), (1, 2), (1,), full), (1, 2, 2, 3))):
+            chain = sets, marks
+            self.assertIs(is_single(chain), True)
+            tree = of_chains(3, (chain,))
+            for text in TEXTS[3] + LONG[3] + [marks[:own] + (1, 2) + marks[own:] for own in range(len(marks) + 1)]:
+                self.assertIs(answers(tree, text), plain_ways(chain, text) != [], (chain, text))
+            self.assertIs(are_alike(3, of_chains(3, (chain_mirrored(chain),)), tree_mirrored(tree)), True)
+
     def test_the_same_tree_again(self):
         for machine in OF_TREES[::5]:
             if len(plain_doings(machine)) <= 24:
@@ -247,6 +281,34 @@ class OfChains(unittest.TestCase):
         self.assertEqual(of_chains(3, (early, FIRST_2)), of_chains(3, (FIRST_2,)))
         self.assertRaises(Unfit, of_chains, 3, (early, LOOSE))
         self.assertRaises(Unfit, of_chains, 3, (LOOSE, early))
+
+    def test_twelve_of_eight_marks(self):
+        # Their machine would be very great; most of the parts of each are far from one another.
+        dice, chains = Dice(145), []
+        while len(chains) < 12:
+            marks = tuple(1 + dice.below(3) for _ in range(8))
+            sets = [tuple(own for own in (1, 2, 3) if own not in (mark, dice.below(5))) for mark in marks]
+            chain = tuple(sets) + ((1, 2, 3),), marks
+            chains += [chain] if is_single(chain) else []
+        self.assertRaises(TooMuch, of_chains, 3, tuple(chains))
+        self.assertRaises(TooMuch, of_chains, 3, tuple(chain_mirrored(chain) for chain in chains))
+        self.assertRaises(Unfit, of_chains, 3, tuple(chains[1:]) + (LOOSE,))
+        # As often as it may be the same one.
+        short = ((2, 3), (1, 3), (1, 2, 3)), (1, 2)
+        self.assertEqual(of_chains(3, (short,) * 12), of_chains(3, (short,)))
+
+    def test_too_much_just_of_those_with_more_than_24(self):
+        few = many = 0
+        for at, (wide, chain) in enumerate(self.SINGLE[::2]):
+            some = [chain] + [own for own_wide, own in self.SINGLE[at % 19::19] if own_wide == wide][:at % 5]
+            told = plain_doings(machine_of_chains(wide, tuple(some)))
+            if len(told) > 24:
+                self.assertRaises(TooMuch, of_chains, wide, some)
+                many += 1
+            else:
+                self.assertIs(is_right(machine_of_chains(wide, some), of_chains(wide, some)), True)
+                few += 1
+        self.assertGreater(min(few, many), 10)
 
     def test_no_chains_and_no_marks(self):
         for wide in (1, 2, 3):

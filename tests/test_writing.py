@@ -203,6 +203,8 @@ class Bent(unittest.TestCase):
                 ("tree", 2, "tree\norder 0 1 1 2 2\nask 0 next 1 then 2\norder 0 1 3 3 3\nsay yes", 4),
                 ("tree", 2, "tree\norder 0 2 1 1 1\nsay yes", 2), ("tree", 2, "tree\nsay maybe", 2),
                 ("tree", 2, "tree\norder 0 1 1 1 4\nsay yes\nsay no", 4), ("tree", 2, "tree\nask 0 next 1 then 3", 3),
+                ("tree", 2, "tree\norder 0 1 1 2 3\nask 0 next 1 then 3\norder 0 1 3 3 3\norder 0 1 4 4 4\nsay yes", 5),
+                ("tree", 2, "tree\norder 0 1 1 2 2\nask 0 next 1 then 3\nask 0 next 1 then 3\norder 0 1 4 4 4\nsay no", None),
                 ("looker", 2, "looker\nlength\nsay yes", 2), ("looker", 2, "looker\nlook next 0 1 1\nsay yes", 2),
                 ("looker", 2, "looker\nlook next 0 1 1 2\nsay yes", 4), ("looker", 2, "looker\nlook back 0 1 1 1\nsay yes", 2),
                 ("naming", 2, "naming", 2), ("naming", 2, "naming\nnext", 2), ("naming", 2, "naming\nnext 1\nlast 2 1", 3),
