@@ -47,13 +47,19 @@ def rows_behind(naming, row, letter):
     return told
 
 
+def marks_at_front(side, longer):
+    """The marks that the next pair, of side, can have at the front, longer those of the pairs ahead of it there."""
+    if side == "next":
+        return (False,)
+    # From the front nothing is found ahead but the front.
+    return (True,) if any(longer[-1:]) else (False, True)
+
+
 def rows_at_front(naming):
     """The list of all rows that one can have at the front."""
     told = [()]
     for side, _ in naming:
-        # From the front nothing is found ahead but the front.
-        told = [longer + (mark,) for longer in told for mark in (False, True)
-                if not (mark and side == "next") and (mark or side == "next" or not any(longer[-1:]))]
+        told = [longer + (mark,) for longer in told for mark in marks_at_front(side, longer)]
     return told
 
 
